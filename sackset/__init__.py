@@ -1,0 +1,1 @@
+"""Sackset: great sets of whole numbers, kept in sacks of three kinds."""
