@@ -113,3 +113,80 @@ def told_form(lows):
         (32, 2, ("bits", words)),
     ]
     return min(forms)[2]
+
+
+TOP = 16777215
+
+# What is no number, whatever it is; NO_LOWS but what is one beyond the sacks.
+NO_NUMBERS = [(name, wrong) for name, wrong in NO_LOWS if name != "256"] + [
+    ("16777216", TOP + 1),
+    ("2 ** 32", 2 ** 32),
+    ("the class int", int),
+]
+
+
+def told_sacks(numbers):
+    """The list of pairs (upper part, form) of some numbers, worked out by hand."""
+    parts = {}
+    for number in numbers:
+        parts.setdefault(number // 256, set()).add(number % 256)
+    return [(upper, told_form(parts[upper])) for upper in sorted(parts)]
+
+
+def state(numbers):
+    """All that a set tells without being asked for a number."""
+    return numbers.numbers(), numbers.sacks(), numbers.count()
+
+
+def told_state(numbers):
+    """What a set of these numbers has to tell."""
+    return sorted(set(numbers)), told_sacks(numbers), len(set(numbers))
+
+
+def told_text(rising):
+    """The text of some numbers, worked out one by one."""
+    there = set(rising)
+    parts = []
+    for number in rising:
+        if number - 1 not in there:
+            last = number
+            while last + 1 in there:
+                last += 1
+            parts.append(str(number) if last == number else str(number) + "-" + str(last))
+    return ",".join(parts) or "none"
+
+
+def some_lists():
+    """Lists of numbers, told rising and each once."""
+    forms = [
+        upper * 256 + low
+        for upper, (_, lows) in zip((0, 1, 2, 5, 6, 7, 300), each_sample()[::2])
+        for low in lows
+    ]
+    return [
+        [],
+        [0],
+        [255],
+        [256],
+        [TOP],
+        [0, TOP],
+        [255, 256],
+        [0, 255, 256, 511, 512, 65535, 65536, TOP - 256, TOP - 255, TOP],
+        list(range(250, 262)),
+        list(range(256, 512)),
+        list(range(255, 513)),
+        list(range(100, 2100)),
+        list(range(TOP - 600, TOP + 1)),
+        list(range(1, 2000, 2)),
+        list(range(0, 2000, 3)),
+        [number for number in range(3000) if number % 100],
+        [9973 * k for k in range(300)],
+        forms,
+    ]
+
+
+def numbers_to_ask():
+    """Numbers at the edges of sacks, of the samples, and of all."""
+    near = [0, 1, 2, 99, 100, 101, 254, 255, 256, 257, 510, 511, 512, 513, 1023, 1024]
+    far = [2099, 2100, 65535, 65536, 2981927, 9999999, TOP - 601, TOP - 600, TOP - 599]
+    return near + far + [TOP - 256, TOP - 255, TOP - 1, TOP]
